@@ -1,0 +1,1 @@
+"""Last of kind: logs from which earlier entries may be left out."""

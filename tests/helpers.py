@@ -1,0 +1,177 @@
+"""Systems, values and plain second ways to the results, for the tests."""
+
+import itertools
+import random
+
+from lastofkind import errors
+
+CELLS = (4, 0, ((0, 1, 0, 1), (2, 3, 2, 3), (0, 0, 2, 2), (1, 1, 3, 3)), (0, 0, 1, 1))
+TURNS = (3, 0, ((1, 2, 0), (0, 0, 0)), (0, 0))
+# A place from 0 to 2 (kind 7), a switch that adds 3 (kind 9), and an operation that does nothing.
+SWITCH = (
+    6, 2,
+    ((0, 0, 0, 3, 3, 3), (1, 1, 1, 4, 4, 4), (2, 2, 2, 5, 5, 5), (0, 1, 2, 0, 1, 2), (3, 4, 5, 3, 4, 5),
+     (0, 1, 2, 3, 4, 5)),
+    (7, 7, 7, 9, 9, None),
+)
+# The states 0 and 1 cannot be reached from the start; the kinds would be wrong there.
+HIDDEN = (4, 3, ((1, 0, 2, 2), (0, 0, 3, 3)), (0, 0))
+ONE_STATE = (1, 0, ((0,),), (0,))
+LONELY = (1, 0, ((0,), (0,), (0,), (0,), (0,), (0,)), (None, 0, 9, 0, None, 3))
+# One operation that goes on to the end and stays there: (f, f) is not (f,).
+ONWARD = (3, 0, ((1, 2, 2),), (4,))
+# Operation 0 sets the first of two cells, operation 1 copies it into the second one: only (0, 1, 0) tells.
+BETWEEN = (4, 0, ((1, 1, 3, 3), (0, 3, 0, 3)), (0, None))
+
+FIXED_SYSTEMS = (CELLS, TURNS, SWITCH, HIDDEN, ONE_STATE, LONELY, ONWARD, BETWEEN)
+
+
+def all_logs(system, most):
+    """All logs with at most so many entries, in order."""
+    for many in range(most + 1):
+        yield from itertools.product(range(len(system[2])), repeat=many)
+
+
+def walked(system, state, log):
+    for entry in log:
+        state = system[2][entry][state]
+    return state
+
+
+def plain_reachable(system):
+    """The reachable states, by going on from what is known until nothing is new."""
+    known = {system[1]}
+    for _ in range(system[0]):
+        known = known | {operation[state] for operation in system[2] for state in known}
+    return sorted(known)
+
+
+def plain_compacted(system, log):
+    """Each entry is left out if a later one is of its kind, straight from the words."""
+    kept = []
+    for at, entry in enumerate(log):
+        kind = system[3][entry]
+        later = [system[3][other] for other in log[at + 1:]]
+        if kind is None or kind not in later:
+            kept.append(entry)
+    return tuple(kept)
+
+
+def fault_logs(system):
+    """All logs of the forms (f, g) and (f, x, g), in order."""
+    kinds = system[3]
+    entries = range(len(kinds))
+    same = [(f, g) for f in entries for g in entries if kinds[f] is not None and kinds[f] == kinds[g]]
+    between = [(f, x, g) for f, g in same for x in entries if kinds[x] is None or kinds[x] != kinds[f]]
+    return sorted(same) + sorted(between)
+
+
+def plain_faults(system):
+    """All faults: each reachable state with each log that does not hold there, in order."""
+    return [
+        (state, log) for state in plain_reachable(system) for log in fault_logs(system)
+        if walked(system, state, log) != walked(system, state, log[1:])
+    ]
+
+
+def is_plainly_changed(system, log):
+    start = system[1]
+    return walked(system, start, log) != walked(system, start, plain_compacted(system, log))
+
+
+def tiny_systems():
+    """All systems of two states with two operations, and all of three states with one, with some kinds."""
+    twos = list(itertools.product(range(2), repeat=2))
+    for one, other in itertools.product(twos, repeat=2):
+        for kinds in ((0, 0), (0, 1), (0, None), (None, None)):
+            yield 2, 0, (one, other), kinds
+            yield 2, 1, (one, other), kinds
+    for only in itertools.product(range(3), repeat=3):
+        yield 3, 0, (only,), (5,)
+        yield 3, 2, (only,), (None,)
+
+
+def random_systems(many, seed):
+    """Systems of all sizes; constants and operations that do nothing make right kinds likely enough."""
+    dice = random.Random(seed)
+    for at in range(many):
+        states = 1 + at % 6
+        amount = 1 + at // 6 % 6
+        operations = tuple(random_operation(dice, states) for _ in range(amount))
+        kinds = tuple(dice.choice((None, 0, 0, 1, 9)) for _ in range(amount))
+        yield states, dice.randrange(states), operations, kinds
+
+
+def random_operation(dice, states):
+    form = dice.randrange(4)
+    if form == 0:
+        return (dice.randrange(states),) * states
+    if form == 1:
+        return tuple(range(states))
+    return tuple(dice.randrange(states) for _ in range(states))
+
+
+def random_log(dice, system, most=40):
+    return tuple(dice.randrange(len(system[2])) for _ in range(dice.randrange(most + 1)))
+
+
+def many_systems():
+    return list(FIXED_SYSTEMS) + list(tiny_systems()) + list(random_systems(288, seed=7))
+
+
+def renumbered(system, names, places):
+    """The system with names[k] for each state k, and with operation k at places[k]."""
+    states, start, operations, kinds = system
+    moved = [None] * len(operations)
+    sorts = [None] * len(operations)
+    for at, operation in enumerate(operations):
+        row = [None] * states
+        for state, target in enumerate(operation):
+            row[names[state]] = names[target]
+        moved[places[at]] = tuple(row)
+        sorts[places[at]] = kinds[at]
+    return states, names[start], tuple(moved), tuple(sorts)
+
+
+def nested(kind, depth):
+    value = kind()
+    for _ in range(depth):
+        value = [value] if kind is list else (value,) if kind is tuple else {0: value}
+    return value
+
+
+def any_values():
+    """Values of each kind that may come as an argument, made anew."""
+    return [
+        None, True, False, 0, 1, -1, 2, 3, 4, 5, 6, 7, -7, 40, 9999999999999, -9999999999999,
+        "", "0", "None", "0123", "x" * 600, "line\nfeed", "{}", "(4, 0)",
+        [], (), {}, [0], [0, 1], [None], {0: 0}, {0: 1, 1: 0}, {"states": 4},
+        [(0, 0)], {(0, 1): (1, 0)}, (None,), ("0",), ([],), ((),), ({},), ((0,),), ([0],), (0, (0, 0), 0),
+        (True,), (False, 1), (0, -1), (0, 9999999999999), (0, "1"), (0, None), (0, [1]), (0, [0, 0]), (0, {}),
+        nested(list, 10), nested(tuple, 10), nested(dict, 10),
+        [0] * 2000, ("0",) * 2000, (None,) * 2000, (True,) * 2000, {number: number for number in range(1000)},
+        tuple([(0, 0)] * 600), (-1,) * 2000,
+        errors.KindError(), errors.NoSystem(), errors.TooMany(41, 40), (errors.NoLog(), 0), [errors.NoState()],
+    ]
+
+
+def spoiled(value):
+    """Values that differ from this one, of tuples, integers and None, in one thing; put for a system, none is one."""
+    if isinstance(value, tuple):
+        yield list(value)
+        yield dict(enumerate(value))
+        yield str(value)
+        if value:
+            yield value[:-1]
+            yield value[1:]
+            yield value + value[-1:]
+            yield value + value
+        yield value + (None,)
+        for at, part in enumerate(value):
+            for other in spoiled(part):
+                yield value[:at] + (other,) + value[at + 1:]
+    elif value is None:
+        yield from (False, True, "", "None", (), [], {})
+    else:
+        yield from (bool(value), not value, str(value), -1 - value, (value,), [value], {value: value})
+        yield from (9999999999999, errors.TooMany(value, value))
