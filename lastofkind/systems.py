@@ -1,6 +1,6 @@
 """Systems of operations, their logs, and the states to which logs lead."""
 
-from lastofkind.errors import NoLog, NoState, NoSystem
+from lastofkind.errors import NoLog, NoOperation, NoState, NoSystem
 
 MOST_STATES = 6
 MOST_OPERATIONS = 6
@@ -62,6 +62,12 @@ def check_log(system, log):
     """Raise NoLog for what is not a log of a system."""
     if not is_log(system, log):
         raise NoLog()
+
+
+def check_operation(system, operation):
+    """Raise NoOperation for what is not the position of an operation of a system."""
+    if not is_place(operation, len(system[2])):
+        raise NoOperation()
 
 
 def end_of(system, state, log):

@@ -23,7 +23,19 @@ ONWARD = (3, 0, ((1, 2, 2),), (4,))
 # Operation 0 sets the first of two cells, operation 1 copies it into the second one: only (0, 1, 0) tells.
 BETWEEN = (4, 0, ((1, 1, 3, 3), (0, 3, 0, 3)), (0, None))
 
-FIXED_SYSTEMS = (CELLS, TURNS, SWITCH, HIDDEN, ONE_STATE, LONELY, ONWARD, BETWEEN)
+# Only four steps of operation 0 bring what operation 1 did to where operation 2 tells it.
+SLOW = (6, 0, ((1, 2, 3, 4, 5, 5), (0, 0, 2, 3, 4, 5), (0, 0, 0, 0, 0, 5)), (None, 0, 1))
+# Operation k leads to the greater one of the state and k: each covers itself and those below it.
+GREATER = (6, 0, tuple(tuple(max(state, least) for state in range(6)) for least in range(6)), (0, 1, 2, 3, 4, 5))
+# Turns to and fro: the order never matters, but nothing may be done twice or left out.
+ROUND = (3, 1, ((1, 2, 0), (2, 0, 1)), (None, None))
+
+FIXED_SYSTEMS = (CELLS, TURNS, SWITCH, HIDDEN, ONE_STATE, LONELY, ONWARD, BETWEEN, SLOW, GREATER, ROUND)
+
+# Values that are no systems, and for the system CELLS no positions of operations and no logs.
+NO_SYSTEMS = ((4, 0, CELLS[2], (0, 0, 1)), list(CELLS), None, True, 0, "", (), {}, (CELLS,), CELLS + (None,))
+NO_OPERATIONS = (4, -1, None, True, False, "0", "", (0,), [0], [], (), {}, {0: 0}, CELLS, 9999999999999, -4)
+NO_LOGS = ((4,), (-1,), [0], [], None, 0, "", "0", (0, True), (False,), (None,), ((0,),), {}, {0: 0}, (0, 1, [2]))
 
 
 def all_logs(system, most):
@@ -111,12 +123,77 @@ def random_operation(dice, states):
     return tuple(dice.randrange(states) for _ in range(states))
 
 
+def slow_systems(many, seed):
+    """Systems of 2 to 6 states and operations, in which a log between often needs entries to tell."""
+    dice = random.Random(seed)
+    for at in range(many):
+        states = 2 + at % 5
+        amount = 2 + at // 5 % 5
+        operations = tuple(slow_operation(dice, states) for _ in range(amount))
+        yield states, dice.randrange(states), operations, tuple(dice.choice((None, 0, 1)) for _ in range(amount))
+
+
+def slow_operation(dice, states):
+    """An operation that changes one state only, tells one state from all others, or goes on along a row of them."""
+    form = dice.randrange(3)
+    place = dice.randrange(states)
+    if form == 0:
+        return tuple(dice.randrange(states) if state == place else state for state in range(states))
+    if form == 1:
+        one, other = dice.randrange(states), dice.randrange(states)
+        return tuple(one if state == place else other for state in range(states))
+    row = dice.sample(range(states), states)
+    return tuple(row[min(row.index(state) + 1, states - 1)] for state in range(states))
+
+
 def random_log(dice, system, most=40):
     return tuple(dice.randrange(len(system[2])) for _ in range(dice.randrange(most + 1)))
 
 
 def many_systems():
     return list(FIXED_SYSTEMS) + list(tiny_systems()) + list(random_systems(288, seed=7))
+
+
+def all_systems():
+    return many_systems() + list(slow_systems(300, seed=5))
+
+
+def first_maps(system, most):
+    """What each log of at most so many entries does from each state, with the first log that does it, in order."""
+    found = {}
+    for log in all_logs(system, most):
+        found.setdefault(tuple(walked(system, state, log) for state in range(system[0])), log)
+    return found
+
+
+def plain_uncovered(system, first, second, maps):
+    """The first log between, of all of those, that tells that second does not cover first, or None."""
+    early, late = system[2][first], system[2][second]
+    for moves, log in maps.items():
+        for state in plain_reachable(system):
+            if late[moves[early[state]]] != late[moves[state]]:
+                return log
+    return None
+
+
+def plain_coverage(system):
+    """The rows of coverage, by all logs of at most four entries."""
+    maps = first_maps(system, 4)
+    entries = range(len(system[2]))
+    return [[plain_uncovered(system, first, second, maps) is None for second in entries] for first in entries]
+
+
+def come_to_the_same(system, one, other):
+    return all(walked(system, state, one) == walked(system, state, other) for state in plain_reachable(system))
+
+
+def with_hidden_state(dice, system):
+    """The system with one more state, the last one or another one, that is not reachable and leads anywhere."""
+    states, start, operations, kinds = system
+    wider = tuple(operation + (dice.randrange(states + 1),) for operation in operations)
+    place = dice.randrange(states + 1)
+    names = [name for name in range(states + 1) if name != place] + [place]
+    return renumbered((states + 1, start, wider, kinds), names, list(range(len(operations)))), names
 
 
 def renumbered(system, names, places):

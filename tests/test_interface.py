@@ -1,10 +1,12 @@
 """The examples of [1], the names and arguments of the interface, and the form of the package's files."""
 
+import doctest
 import importlib
 import inspect
 import pathlib
 import unittest
 
+from lastofkind.covers import best_kinds, uncovered
 from lastofkind.kinds import compacted, fault
 from lastofkind.systems import outcome
 
@@ -26,6 +28,23 @@ FUNCTIONS = {
         "changed": ["system"],
         "shows_changed": ["system", "thing"],
     },
+    "lastofkind.covers": {
+        "uncovered": ["system", "first", "second"],
+        "shows_uncovered": ["system", "first", "second", "thing"],
+        "coverage": ["system"],
+        "best_kinds": ["system"],
+        "thinned": ["system", "log"],
+    },
+    "lastofkind.repeats": {
+        "unsteady": ["system", "operation"],
+        "repeat_fault": ["system"],
+        "firsts": ["system", "log"],
+    },
+    "lastofkind.orders": {
+        "order_fault": ["system"],
+        "orders": ["system", "log"],
+        "by_set": ["system"],
+    },
 }
 
 
@@ -39,6 +58,13 @@ class Examples(unittest.TestCase):
     def test_turns(self):
         turns = (3, 0, ((1, 2, 0), (0, 0, 0)), (0, 0))
         self.assertEqual(fault(turns), (0, (0, 0)))
+        self.assertIsNone(uncovered(turns, 0, 1))
+        self.assertEqual(best_kinds(turns), (None, 0))
+
+    def test_the_examples_of_the_readme(self):
+        found = doctest.testfile(str(PACKAGE.parent / "README.md"), module_relative=False)
+        self.assertEqual(found.failed, 0)
+        self.assertGreater(found.attempted, 0)
 
 
 class Interface(unittest.TestCase):

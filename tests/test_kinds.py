@@ -6,19 +6,18 @@ import unittest
 
 from lastofkind.errors import NoLog, NoSystem
 from lastofkind.kinds import changed, compacted, fault, shows_changed, shows_fault
-from lastofkind.systems import outcome, reachable
+from lastofkind.systems import outcome
 
 from tests.helpers import (
-    BETWEEN, CELLS, FIXED_SYSTEMS, HIDDEN, LONELY, ONE_STATE, ONWARD, SWITCH, TURNS, all_logs, any_values,
-    is_plainly_changed, many_systems, plain_compacted, plain_faults, random_log, random_systems, renumbered,
-    spoiled, tiny_systems, walked,
+    BETWEEN, CELLS, FIXED_SYSTEMS, GREATER, HIDDEN, LONELY, NO_SYSTEMS, ONE_STATE, ONWARD, ROUND, SLOW, SWITCH, TURNS,
+    all_logs, any_values, is_plainly_changed, many_systems, plain_compacted, plain_faults, random_log, random_systems,
+    renumbered, spoiled, tiny_systems, walked,
 )
 
-RIGHT = (CELLS, SWITCH, HIDDEN, ONE_STATE, LONELY)
-WRONG = (TURNS, ONWARD, BETWEEN)
+RIGHT = (CELLS, SWITCH, HIDDEN, ONE_STATE, LONELY, GREATER, ROUND)
+WRONG = (TURNS, ONWARD, BETWEEN, SLOW)
 # From the start 4 on, the kinds are not right at the states 3 and 4, and hold at the reachable state 2.
 LATE = (5, 4, ((0, 0, 2, 3, 3), (1, 1, 2, 2, 4)), (0, 0))
-NO_SYSTEMS = ((4, 0, CELLS[2], (0, 0, 1)), list(CELLS), None, True, 0, "", (), {}, (CELLS,), CELLS + (None,))
 
 
 class Compacted(unittest.TestCase):

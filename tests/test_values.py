@@ -3,11 +3,20 @@
 import itertools
 import unittest
 
-from lastofkind.errors import KindError, NoLog, NoState, NoSystem
+from lastofkind.covers import best_kinds, coverage, shows_uncovered, thinned, uncovered
+from lastofkind.errors import KindError, NoLog, NoOperation, NoState, NoSystem, TooMany
 from lastofkind.kinds import changed, compacted, fault, shows_changed, shows_fault
+from lastofkind.orders import by_set, order_fault, orders
+from lastofkind.repeats import firsts, repeat_fault, unsteady
 from lastofkind.systems import apart, is_system, outcome, path, reachable, run
 
 from tests.helpers import CELLS, FIXED_SYSTEMS, TURNS, any_values, spoiled
+
+
+def all_orders(system, log):
+    """What orders yields; a generator raises at the latest when its first result is asked for."""
+    return list(orders(system, log))
+
 
 # Each function with the exceptions for its arguments, in the order in which they are listed; None: it takes any value.
 REFUSALS = (
@@ -22,6 +31,17 @@ REFUSALS = (
     (shows_fault, (NoSystem, None)),
     (changed, (NoSystem,)),
     (shows_changed, (NoSystem, None)),
+    (uncovered, (NoSystem, NoOperation, NoOperation)),
+    (shows_uncovered, (NoSystem, NoOperation, NoOperation, None)),
+    (coverage, (NoSystem,)),
+    (best_kinds, (NoSystem,)),
+    (thinned, (NoSystem, NoLog)),
+    (unsteady, (NoSystem, NoOperation)),
+    (repeat_fault, (NoSystem,)),
+    (firsts, (NoSystem, NoLog)),
+    (order_fault, (NoSystem,)),
+    (all_orders, (NoSystem, NoLog)),
+    (by_set, (NoSystem,)),
 )
 
 
@@ -37,7 +57,7 @@ def wrong_values(error):
     """Values for which this exception is raised beside the system CELLS."""
     if error is NoSystem:
         return any_values() + list(spoiled(CELLS))
-    if error is NoState:
+    if error in (NoState, NoOperation):
         return [thing for thing in any_values() if not is_below(thing, 4)]
     if error is NoLog:
         return [thing for thing in any_values() + list(spoiled((1, 0, 3))) if not is_right_log(thing)]
@@ -45,7 +65,7 @@ def wrong_values(error):
 
 
 def right_value(error):
-    return {NoSystem: CELLS, NoState: 3, NoLog: (1, 2, 0, 3)}.get(error)
+    return {NoSystem: CELLS, NoState: 3, NoOperation: 2, NoLog: (1, 2, 0, 3)}.get(error)
 
 
 def attempt(function, arguments):
@@ -90,6 +110,15 @@ class Refusals(unittest.TestCase):
                 arguments = [TURNS[2]] + [thing] * (len(errors) - 1)
                 self.assertEqual(attempt(function, arguments), "NoSystem", (function, thing))
 
+    def test_a_log_with_too_many_entries_is_refused_last(self):
+        for thing in wrong_values(NoSystem):
+            self.assertEqual(attempt(all_orders, [thing, (0,) * 7]), "NoSystem", thing)
+        for thing in wrong_values(NoOperation):
+            self.assertEqual(attempt(all_orders, [CELLS, (0,) * 7 + (thing,)]), "NoLog", thing)
+        with self.assertRaises(TooMany) as caught:
+            all_orders(CELLS, (0,) * 7)
+        self.assertIs(type(caught.exception), TooMany)
+
     def test_right_values_are_not_refused(self):
         for function, errors in REFUSALS:
             function(*[right_value(error) for error in errors])
@@ -102,12 +131,14 @@ class Judged(unittest.TestCase):
             for system in FIXED_SYSTEMS:
                 self.assertIs(type(shows_fault(system, thing)), bool)
                 self.assertIs(type(shows_changed(system, thing)), bool)
+                self.assertIs(type(shows_uncovered(system, 0, 0, thing)), bool)
 
     def test_values_that_are_right_in_some_part(self):
         for thing in any_values():
             for value in ((0, thing), (thing, (0, 0)), (0, (0, thing)), (0, (thing, 0)), (0, 0, thing), [0, thing]):
                 self.assertIs(type(shows_fault(TURNS, value)), bool)
                 self.assertIs(type(shows_changed(TURNS, value)), bool)
+                self.assertIs(type(shows_uncovered(TURNS, 0, 0, value)), bool)
                 self.assertIs(is_system(value), False)
 
 
@@ -116,7 +147,9 @@ class ArgumentsAndResults(unittest.TestCase):
         for function, errors in REFUSALS:
             yield function, [right_value(error) for error in errors]
             for system in FIXED_SYSTEMS:
-                yield function, [{NoSystem: system, NoState: 0, NoLog: (0,) * 40}.get(error) for error in errors]
+                for log in ((0,) * 40, (0,) * 6):
+                    values = {NoSystem: system, NoState: 0, NoOperation: 0, NoLog: log}
+                    yield function, [values.get(error) for error in errors]
             for thing in any_values():
                 yield function, [thing] * len(errors)
                 yield function, [CELLS] + [thing] * (len(errors) - 1)
@@ -145,6 +178,11 @@ class ArgumentsAndResults(unittest.TestCase):
         self.assertIs(shows_fault(TURNS, fault(TURNS)), True)
         self.assertIs(shows_changed(TURNS, changed(TURNS)), True)
         self.assertEqual(run(TURNS, run(TURNS, 0, path(TURNS, 2)), ()), 2)
+        self.assertIs(shows_uncovered(TURNS, 0, 0, uncovered(TURNS, 0, 0)), True)
+        self.assertIsNone(fault(TURNS[:3] + (best_kinds(TURNS),)))
+        self.assertEqual(thinned(TURNS, thinned(TURNS, log) * 20), log * 20)
+        self.assertEqual(firsts(TURNS, firsts(TURNS, log) * 600), (0,))
+        self.assertEqual([firsts(TURNS, order) for order in orders(TURNS, (1, 0, 0))], [(0, 1), (0, 1), (1, 0)])
 
     def test_kinds_of_results(self):
         for system in FIXED_SYSTEMS:
@@ -153,7 +191,14 @@ class ArgumentsAndResults(unittest.TestCase):
             self.assertIs(type(compacted(system, (0, 0))), tuple)
             self.assertIs(type(run(system, 0, (0,))), int)
             self.assertIs(type(outcome(system, (0,))), int)
-            for found in (fault(system), changed(system)):
+            self.assertIs(type(coverage(system)), tuple)
+            self.assertIs(type(best_kinds(system)), tuple)
+            self.assertIs(type(thinned(system, (0, 0))), tuple)
+            self.assertIs(type(firsts(system, (0, 0))), tuple)
+            self.assertIs(type(by_set(system)), bool)
+            for found in (fault(system), changed(system), uncovered(system, 0, 0), unsteady(system, 0)):
+                self.assertIn(type(found), (tuple, type(None)))
+            for found in (repeat_fault(system), order_fault(system)):
                 self.assertIn(type(found), (tuple, type(None)))
 
 
