@@ -4,6 +4,8 @@ import itertools
 import random
 
 from lastofkind import errors
+from lastofkind.effects import Effect
+from lastofkind.stores import Compact, Limited, LimitedThin, Once, Store, Thin
 
 CELLS = (4, 0, ((0, 1, 0, 1), (2, 3, 2, 3), (0, 0, 2, 2), (1, 1, 3, 3)), (0, 0, 1, 1))
 TURNS = (3, 0, ((1, 2, 0), (0, 0, 0)), (0, 0))
@@ -146,6 +148,11 @@ def slow_operation(dice, states):
     return tuple(row[min(row.index(state) + 1, states - 1)] for state in range(states))
 
 
+def made_anew(value):
+    """An equal value of tuples, integers and None that is another object, as all of its tuples are."""
+    return tuple([made_anew(part) for part in value]) if isinstance(value, tuple) else value
+
+
 def random_log(dice, system, most=40):
     return tuple(dice.randrange(len(system[2])) for _ in range(dice.randrange(most + 1)))
 
@@ -183,6 +190,18 @@ def plain_coverage(system):
     return [[plain_uncovered(system, first, second, maps) is None for second in entries] for first in entries]
 
 
+def plain_thinned(rows, log):
+    """Each entry is left out if some later one covers it, straight from the words."""
+    return tuple([
+        entry for at, entry in enumerate(log) if not any([rows[entry][later] for later in log[at + 1:]])
+    ])
+
+
+def plain_firsts(log):
+    """Each entry is left out if it stands earlier already, straight from the words."""
+    return tuple([entry for at, entry in enumerate(log) if entry not in log[:at]])
+
+
 def come_to_the_same(system, one, other):
     return all(walked(system, state, one) == walked(system, state, other) for state in plain_reachable(system))
 
@@ -210,6 +229,11 @@ def renumbered(system, names, places):
     return states, names[start], tuple(moved), tuple(sorts)
 
 
+def is_below(thing, many):
+    """Whether this is an integer, no bool, of those from 0 that are below many."""
+    return type(thing) is int and 0 <= thing < many
+
+
 def nested(kind, depth):
     value = kind()
     for _ in range(depth):
@@ -217,8 +241,34 @@ def nested(kind, depth):
     return value
 
 
+def filled(store, *logs):
+    """The store, with these logs put at its end."""
+    for log in logs:
+        store.extend(log)
+    return store
+
+
+def package_objects():
+    """Objects of the package, exceptions apart, made anew."""
+    return [
+        Effect(CELLS, (0, 1, 2, 3)), Effect.of(CELLS, (1, 2)), Effect.of(TURNS, ()),
+        Store(CELLS), filled(Store(CELLS), (0,), (1, 2, 3)), filled(Compact(CELLS), (1, 2, 0)),
+        filled(Thin(CELLS), (1, 2)), filled(Once(GREATER), (1, 2, 1)), filled(Limited(CELLS), (0, 0)),
+        filled(LimitedThin(CELLS, 2), (0, 2)), Store(CELLS).trying(),
+    ]
+
+
 def any_values():
     """Values of each kind that may come as an argument, made anew."""
+    return plain_values() + package_objects() + [
+        (Effect.of(CELLS, (0,)), 0), [Effect.of(CELLS, ())], {0: Store(CELLS)}, (Store(CELLS),), (0, Store(CELLS)),
+        (0, (0, Effect.of(TURNS, (0,)))), (filled(Store(TURNS), (0,)), (0, 0)), (Effect(TURNS, (0, 0, 0)),) * 3,
+        [filled(Limited(CELLS), (0, 1)), filled(Thin(CELLS), (0, 1))], (filled(Store(CELLS), (0, 0)),) * 4,
+    ]
+
+
+def plain_values():
+    """Those without the objects that have methods."""
     return [
         None, True, False, 0, 1, -1, 2, 3, 4, 5, 6, 7, -7, 40, 9999999999999, -9999999999999,
         "", "0", "None", "0123", "x" * 600, "line\nfeed", "{}", "(4, 0)",
@@ -251,4 +301,4 @@ def spoiled(value):
         yield from (False, True, "", "None", (), [], {})
     else:
         yield from (bool(value), not value, str(value), -1 - value, (value,), [value], {value: value})
-        yield from (9999999999999, errors.TooMany(value, value))
+        yield from (9999999999999, errors.TooMany(value, value), Effect.of(CELLS, (0,)), Store(CELLS))

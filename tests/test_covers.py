@@ -12,8 +12,8 @@ from lastofkind.systems import outcome
 from tests.helpers import (
     BETWEEN, CELLS, FIXED_SYSTEMS, GREATER, HIDDEN, LONELY, NO_LOGS, NO_OPERATIONS, NO_SYSTEMS, ONE_STATE, ONWARD,
     ROUND, SLOW, SWITCH, TURNS, all_logs, all_systems, any_values, come_to_the_same, first_maps, many_systems,
-    plain_coverage, plain_reachable, plain_uncovered, random_log, renumbered, slow_systems, spoiled, tiny_systems,
-    with_hidden_state,
+    plain_coverage, plain_reachable, plain_thinned, plain_uncovered, random_log, renumbered, slow_systems, spoiled,
+    tiny_systems, with_hidden_state,
 )
 
 # Behind operation 1 the log (2,) tells at state 1, but the log (0,), the first one, only at state 2.
@@ -24,13 +24,6 @@ TWO_STEPS = (5, 4, ((3, 4, 1, 2, 4), (4, 0, 2, 1, 2), (4, 1, 2, 3, 4), (1, 4, 1,
 
 def pairs_of(system):
     return itertools.product(range(len(system[2])), repeat=2)
-
-
-def plain_thinned(rows, log):
-    """Each entry is left out if some later one covers it, straight from the words."""
-    return tuple([
-        entry for at, entry in enumerate(log) if not any([rows[entry][later] for later in log[at + 1:]])
-    ])
 
 
 def is_within(part, whole):

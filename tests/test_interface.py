@@ -7,7 +7,9 @@ import pathlib
 import unittest
 
 from lastofkind.covers import best_kinds, uncovered
+from lastofkind.effects import Effect
 from lastofkind.kinds import compacted, fault
+from lastofkind.stores import Limited, LimitedThin, Store
 from lastofkind.systems import outcome
 
 PACKAGE = pathlib.Path(__file__).resolve().parent.parent / "lastofkind"
@@ -45,6 +47,33 @@ FUNCTIONS = {
         "orders": ["system", "log"],
         "by_set": ["system"],
     },
+    "lastofkind.texts": {
+        "system_text": ["system"],
+        "read_system": ["text"],
+    },
+}
+
+# Each class with its file, the bases that are promised, and what stands in its own body: arguments, or what it is.
+CLASSES = {
+    "Effect": ("lastofkind.effects", [], {
+        "__init__": ["self", "system", "moves"], "of": classmethod, "joined": staticmethod, "system": property,
+        "moves": property, "fixed": property, "__add__": 2, "__mul__": 2, "__call__": ["self", "state"], "__eq__": 2,
+        "__repr__": 1,
+    }),
+    "Store": ("lastofkind.stores", [], {
+        "__init__": ["self", "system"], "system": property, "entries": property, "outcome": property,
+        "changes": property, "assign_entries": ["self", "log"], "extend": ["self", "log"], "add": ["self", "operation"],
+        "__call__": ["self", "operation"], "undo": ["self"], "trying": ["self"], "__len__": 1, "__getitem__": 2,
+        "__contains__": 2, "__eq__": 2, "__repr__": 1,
+    }),
+    "Compact": ("lastofkind.stores", ["Store"], {"__init__": ["self", "system"]}),
+    "Thin": ("lastofkind.stores", ["Store"], {"__init__": ["self", "system"]}),
+    "Once": ("lastofkind.stores", ["Store"], {"__init__": ["self", "system"]}),
+    "Limited": ("lastofkind.stores", ["Store"], {"__init__": ["self", "system", "most"], "most": property}),
+    "LimitedThin": (
+        "lastofkind.stores", ["Store", "Limited", "Thin"],
+        {"__init__": ["self", "system", "most"], "most": property},
+    ),
 }
 
 
@@ -77,6 +106,37 @@ class Interface(unittest.TestCase):
                     self.assertTrue(inspect.isfunction(function))
                     self.assertEqual(function.__module__, file)
                     self.assertEqual(list(inspect.signature(function).parameters), arguments)
+
+
+    def test_classes_are_defined_in_their_files(self):
+        for name, (file, bases, members) in CLASSES.items():
+            module = importlib.import_module(file)
+            made = getattr(module, name)
+            self.assertTrue(inspect.isclass(made))
+            self.assertEqual((made.__module__, made.__name__), (file, name))
+            for base in bases:
+                self.assertTrue(issubclass(made, getattr(module, base)))
+            for member, form in members.items():
+                with self.subTest(name=name, member=member):
+                    found = vars(made)[member]
+                    if form in (classmethod, staticmethod, property):
+                        self.assertIs(type(found), form)
+                    else:
+                        arguments = list(inspect.signature(found).parameters)
+                        self.assertEqual(arguments if isinstance(form, list) else len(arguments), form)
+
+    def test_arguments_of_static_and_class_methods(self):
+        self.assertEqual(list(inspect.signature(Effect.of).parameters), ["system", "log"])
+        self.assertEqual(list(inspect.signature(Effect.joined).parameters), ["effects"])
+
+    def test_the_limit_that_stands_without_a_word(self):
+        for made in (Limited, LimitedThin):
+            self.assertEqual(inspect.signature(made).parameters["most"].default, 5)
+
+    def test_entries_alone_can_be_assigned(self):
+        self.assertIsNotNone(Store.entries.fset)
+        for found in (Store.system, Store.outcome, Store.changes, Limited.most, Effect.moves, Effect.fixed):
+            self.assertIsNone(found.fset)
 
 
 class Form(unittest.TestCase):

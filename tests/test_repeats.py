@@ -9,8 +9,8 @@ from lastofkind.systems import outcome
 
 from tests.helpers import (
     BETWEEN, CELLS, FIXED_SYSTEMS, GREATER, HIDDEN, LONELY, NO_LOGS, NO_OPERATIONS, NO_SYSTEMS, ONE_STATE, ONWARD,
-    ROUND, SLOW, SWITCH, TURNS, all_logs, all_systems, come_to_the_same, first_maps, many_systems, plain_reachable,
-    random_log, random_systems, renumbered, slow_systems, tiny_systems, walked, with_hidden_state,
+    ROUND, SLOW, SWITCH, TURNS, all_logs, all_systems, come_to_the_same, first_maps, many_systems, plain_firsts,
+    plain_reachable, random_log, random_systems, renumbered, slow_systems, tiny_systems, walked, with_hidden_state,
 )
 
 # The first one of two operations leads to its own state, and nothing leads away from there: the order matters.
@@ -35,10 +35,6 @@ def plain_repeat_faults(system):
         (state, log) for state in plain_reachable(system) for log in logs
         if walked(system, state, log) != walked(system, state, log[:-1])
     ]
-
-
-def plain_firsts(log):
-    return tuple([entry for at, entry in enumerate(log) if entry not in log[:at]])
 
 
 class Unsteady(unittest.TestCase):

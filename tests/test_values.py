@@ -4,13 +4,18 @@ import itertools
 import unittest
 
 from lastofkind.covers import best_kinds, coverage, shows_uncovered, thinned, uncovered
-from lastofkind.errors import KindError, NoLog, NoOperation, NoState, NoSystem, TooMany
+from lastofkind.effects import Effect
+from lastofkind.errors import (
+    KindError, NoEffect, NoLog, NoMoves, NoNumber, NoOperation, NoState, NoSystem, NoText, TooMany,
+)
 from lastofkind.kinds import changed, compacted, fault, shows_changed, shows_fault
 from lastofkind.orders import by_set, order_fault, orders
 from lastofkind.repeats import firsts, repeat_fault, unsteady
+from lastofkind.stores import Compact, Limited, LimitedThin, Store, Thin
 from lastofkind.systems import apart, is_system, outcome, path, reachable, run
+from lastofkind.texts import read_system, system_text
 
-from tests.helpers import CELLS, FIXED_SYSTEMS, TURNS, any_values, spoiled
+from tests.helpers import CELLS, FIXED_SYSTEMS, TURNS, any_values, is_below, spoiled
 
 
 def all_orders(system, log):
@@ -42,15 +47,25 @@ REFUSALS = (
     (order_fault, (NoSystem,)),
     (all_orders, (NoSystem, NoLog)),
     (by_set, (NoSystem,)),
+    (Effect, (NoSystem, NoMoves)),
+    (Effect.of, (NoSystem, NoLog)),
+    (Effect.joined, (NoEffect,)),
+    (Store, (NoSystem,)),
+    (Compact, (NoSystem,)),
+    (Thin, (NoSystem,)),
+    (Limited, (NoSystem, NoNumber)),
+    (LimitedThin, (NoSystem, NoNumber)),
+    (system_text, (NoSystem,)),
+    (read_system, (NoText,)),
 )
-
-
-def is_below(thing, many):
-    return type(thing) is int and 0 <= thing < many
 
 
 def is_right_log(thing):
     return type(thing) is tuple and all(is_below(part, 4) for part in thing)
+
+
+def are_effects(thing):
+    return type(thing) is tuple and thing and all(type(part) is Effect for part in thing)
 
 
 def wrong_values(error):
@@ -61,11 +76,27 @@ def wrong_values(error):
         return [thing for thing in any_values() if not is_below(thing, 4)]
     if error is NoLog:
         return [thing for thing in any_values() + list(spoiled((1, 0, 3))) if not is_right_log(thing)]
+    if error is NoMoves:
+        values = any_values() + list(spoiled((3, 0, 2, 1)))
+        return [thing for thing in values if not is_right_log(thing) or len(thing) != 4]
+    if error is NoEffect:
+        return [thing for thing in any_values() if not are_effects(thing)]
+    if error is NoNumber:
+        return [thing for thing in any_values() + [41, -1] if not is_below(thing, 41)]
     return any_values()
 
 
+def right_values(system, log):
+    """A right value beside this system, for each exception that a wrong one raises."""
+    return {
+        NoSystem: system, NoState: system[0] - 1, NoOperation: len(system[2]) - 1, NoLog: log, NoNumber: 40,
+        NoMoves: reachable(system), NoEffect: (Effect.of(system, log), Effect.of(system, ())),
+        NoText: system_text(system),
+    }
+
+
 def right_value(error):
-    return {NoSystem: CELLS, NoState: 3, NoOperation: 2, NoLog: (1, 2, 0, 3)}.get(error)
+    return right_values(CELLS, (1, 2, 0, 3)).get(error)
 
 
 def attempt(function, arguments):
@@ -105,7 +136,9 @@ class Refusals(unittest.TestCase):
                     self.assertEqual(attempt(function, arguments), error.__name__, (function, thing))
 
     def test_no_system_beside_any_other_value(self):
-        for function, errors in REFUSALS[1:]:
+        for function, errors in REFUSALS:
+            if errors[0] is not NoSystem:
+                continue
             for thing in any_values():
                 arguments = [TURNS[2]] + [thing] * (len(errors) - 1)
                 self.assertEqual(attempt(function, arguments), "NoSystem", (function, thing))
@@ -148,7 +181,7 @@ class ArgumentsAndResults(unittest.TestCase):
             yield function, [right_value(error) for error in errors]
             for system in FIXED_SYSTEMS:
                 for log in ((0,) * 40, (0,) * 6):
-                    values = {NoSystem: system, NoState: 0, NoOperation: 0, NoLog: log}
+                    values = right_values(system, log)
                     yield function, [values.get(error) for error in errors]
             for thing in any_values():
                 yield function, [thing] * len(errors)
@@ -200,6 +233,10 @@ class ArgumentsAndResults(unittest.TestCase):
                 self.assertIn(type(found), (tuple, type(None)))
             for found in (repeat_fault(system), order_fault(system)):
                 self.assertIn(type(found), (tuple, type(None)))
+            self.assertIs(type(Effect.of(system, (0, 0)).moves), tuple)
+            self.assertIs(type(Store(system).entries), tuple)
+            self.assertIs(type(system_text(system)), str)
+            self.assertIs(type(read_system(system_text(system))), tuple)
 
 
 if __name__ == "__main__":
